@@ -1,0 +1,1 @@
+"""Ascalls: letters between parties that could have been calls."""

@@ -1,0 +1,91 @@
+"""The interface: names, modules, the order of parameters, and where functions and methods are defined."""
+
+import importlib
+import inspect
+import unittest
+
+FUNCTIONS = {
+    'kinds': ['is_integer(thing)', 'is_number(thing)', 'is_name(thing)', 'is_doing(thing)', 'is_arrow(thing)',
+              'is_channel(thing)', 'is_party(thing)', 'is_program(thing)', 'is_event(thing)'],
+    'programchecker': ['lets_program(thing)'],
+    'programparts': ['arrows_from(program, party, place)', 'doing_of(program, event)', 'channel_of(program, name)',
+                     'channels_between(program, party, other)', 'letters_on(program, name)', 'places_of(program, party)'],
+    'programchanges': ['with_channel(program, channel)', 'without_channel(program, name)', 'with_party(program, party)',
+                       'without_party(program, party)', 'with_arrow(program, party, arrow)',
+                       'without_arrow(program, party, k)', 'with_form(program, name, form)', 'with_calls(program, names)',
+                       'mirrored(program)'],
+    'programtexts': ['doing_text(doing)', 'program_text(program)'],
+    'programreadings': ['doing_read(text, *, line=0, field=0)', 'program_read(text)'],
+    'runs': ['is_run(program, thing)', 'lets_run(program, thing)', 'next_steps(program, made)',
+             'places_after(program, made)', 'contents_of(program, made)', 'stand_after(program, made)'],
+    'letters': ['letters_of(program, made)', 'is_ahead(program, made, m, n)', 'is_behind(program, made, m, n)',
+                'shortest_ring(program, made)', 'is_direct(program, made)'],
+    'orders': ['direct_run(program, made)', 'are_alike(program, made, other)', 'events_of(program, made, party)',
+               'doings_of(program, made, party)', 'moves_of(program, made)'],
+}
+CLASSES = {
+    'errors': {
+        'CallsError': [], 'PaperError': [], 'ProgramError': [], 'WatchError': [], 'TextError': [],
+        'InvalidPaper': ['__init__(self, word, at)'], 'NotUsable': ['__init__(self, word, at)'],
+        'NotCalls': ['__init__(self, run, ring)'], 'InvalidEvent': ['__init__(self, event, reason)'],
+        'NothingToUndo': ['__init__(self, steps)'], 'InvalidText': ['__init__(self, line, field)'],
+        'InvalidRow': ['__init__(self, row)'],
+    },
+    'programclasses': {
+        'Program': ['__init__(self, parties=(), channels=())', '__call__(self, party, place)', 'added(self, party)',
+                    'dropped(self, party)', 'extended(self, party, arrow)', 'shortened(self, party, k)',
+                    'formed(self, name, form)', 'called(self, names)', 'mirror(self)', 'all_arrows(self)',
+                    'parsed(cls, text)', 'plain(names)'],
+        'Called': ['__init__(self, program, *names)'],
+        'Mirrored': ['__init__(self, program)'],
+    },
+}
+OPERATORS = {'Program': ['__getitem__', '__contains__', '__len__', '__iter__', '__eq__', '__str__', '__add__', '__sub__']}
+PROPERTIES = {'Program': ['parties', 'channels', 'form'], 'Called': ['source'], 'Mirrored': ['source']}
+GENERATORS = (('orders', 'moves_of'), ('programclasses', 'Program.all_arrows'))
+
+
+def module(name):
+    """A module of the package."""
+    return importlib.import_module(f'ascalls.{name}')
+
+
+class InterfaceTests(unittest.TestCase):
+    def test_functions(self):
+        for name, functions in FUNCTIONS.items():
+            for written in functions:
+                function = vars(module(name))[written.partition('(')[0]]
+                self.assertTrue(inspect.isfunction(function))
+                self.assertEqual(function.__module__, f'ascalls.{name}')
+                self.assertEqual(function.__name__ + str(inspect.signature(function)), written)
+
+    def test_classes(self):
+        for name, classes in CLASSES.items():
+            for title, methods in classes.items():
+                made = vars(module(name))[title]
+                self.assertTrue(inspect.isclass(made))
+                self.assertEqual(made.__module__, f'ascalls.{name}')
+                for written in methods:
+                    method = vars(made)[written.partition('(')[0]]
+                    function = getattr(method, '__func__', method)
+                    self.assertEqual(function.__name__ + str(inspect.signature(function)), written)
+                for operator in OPERATORS.get(title, []):
+                    self.assertIn(operator, vars(made))
+                for prop in PROPERTIES.get(title, []):
+                    self.assertIsInstance(vars(made)[prop], property)
+
+    def test_class_and_static_methods(self):
+        program = vars(module('programclasses').Program)
+        self.assertIsInstance(program['parsed'], classmethod)
+        self.assertIsInstance(program['plain'], staticmethod)
+
+    def test_generators(self):
+        for name, path in GENERATORS:
+            thing = module(name)
+            for part in path.split('.'):
+                thing = getattr(thing, part)
+            self.assertTrue(inspect.isgeneratorfunction(thing))
+
+
+if __name__ == '__main__':
+    unittest.main()

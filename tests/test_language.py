@@ -1,0 +1,109 @@
+"""What of the rules for the package's code can be seen in its files: sizes, signs, imports and constructs."""
+
+import ast
+import builtins
+import pathlib
+import re
+import unittest
+
+FOLDER = pathlib.Path(__file__).resolve().parent.parent / 'ascalls'
+STATEMENTS = (ast.FunctionDef, ast.ClassDef, ast.Assign, ast.If, ast.While, ast.For, ast.Return, ast.Break, ast.Continue,
+              ast.Pass, ast.Raise, ast.Assert, ast.Delete, ast.Try, ast.Expr, ast.ImportFrom, ast.With)
+BUILTINS = ('len', 'bool', 'range', 'enumerate', 'zip', 'sum', 'sorted', 'int', 'str', 'list', 'tuple', 'set', 'isinstance', 'any',
+            'all', 'iter', 'super', 'ValueError', 'property', 'classmethod', 'staticmethod')
+METHODS = ('append', 'extend', 'get', 'join', 'split')
+BARRED = ('type', 'typing', 'enum', 'Enum', 'Flag', 'Generic', 'Protocol', 'ABC', 'namedtuple', 'dataclass', 'overload',
+          'contextmanager', 'Meta', '_wall', '_WallAttr')
+BARRED_NAMES = ('register', 'mro', 'elements', 'open', 'input', 'law', 'compile', 'dir', 'eval', 'exec', 'exit', 'gc', 'help',
+                'id', 'os', 'sys', 'vars', 'quit', 'license', 'credits', 'globals', 'locals')
+
+
+def files():
+    """Each file of the package, with its text and its tree."""
+    for path in sorted(FOLDER.glob('*.py')):
+        text = path.read_text(encoding='utf-8')
+        yield path.name, text, ast.parse(text)
+
+
+def nodes(tree, *kinds):
+    """The nodes of these kinds."""
+    return [node for node in ast.walk(tree) if isinstance(node, kinds)]
+
+
+def own_names(tree):
+    """All names that are bound in a file: functions, classes, parameters, variables."""
+    names = [node.name for node in nodes(tree, ast.FunctionDef, ast.ClassDef)]
+    names += [node.arg for node in nodes(tree, ast.arg)]
+    names += [node.id for node in nodes(tree, ast.Name) if isinstance(node.ctx, ast.Store)]
+    return names
+
+
+class LanguageTests(unittest.TestCase):
+    def test_files(self):
+        names = [path.name for path in FOLDER.iterdir() if path.name != '__pycache__']
+        self.assertIn('__init__.py', names)
+        for name in names:
+            self.assertTrue(re.fullmatch(r'[a-z]+\.py|__init__\.py', name), name)
+
+    def test_sizes_and_signs(self):
+        for name, text, tree in files():
+            self.assertLessEqual(len(text.split('\n')), 400, name)
+            self.assertTrue(all(sign == '\n' or ' ' <= sign <= '~' for sign in text), name)
+            self.assertFalse(any(len(line) > 120 for line in text.split('\n')), name)
+            for node in nodes(tree, ast.FunctionDef):
+                self.assertLessEqual(node.end_lineno - node.lineno + 1, 40, node.name)
+            for node in nodes(tree, ast.Constant):
+                self.assertNotIsInstance(node.value, float)
+                if isinstance(node.value, str):
+                    self.assertNotIn(chr(37), node.value)
+
+    def test_imports(self):
+        for name, _, tree in files():
+            for node in nodes(tree, ast.ImportFrom):
+                self.assertTrue(node.level == 0 and node.module.startswith('ascalls.'), name)
+                self.assertIn(node, tree.body)
+                made = ast.parse((FOLDER / (node.module.partition('.')[2] + '.py')).read_text(encoding='utf-8'))
+                bound = [part.name for part in made.body if isinstance(part, (ast.FunctionDef, ast.ClassDef))]
+                bound += [part.targets[0].id for part in made.body if isinstance(part, ast.Assign)]
+                for alias in node.names:
+                    self.assertIs(alias.asname, None)
+                    self.assertIn(alias.name, bound)
+                    used = [part.id for part in nodes(tree, ast.Name)]
+                    self.assertIn(alias.name, used, name)
+            imported = [alias.name for node in nodes(tree, ast.ImportFrom) for alias in node.names]
+            self.assertFalse(set(imported) & set(own_names(tree)), name)
+
+    def test_statements(self):
+        for name, _, tree in files():
+            for node in nodes(tree, ast.stmt):
+                self.assertIsInstance(node, STATEMENTS, (name, node.lineno))
+            self.assertEqual(nodes(tree, ast.GeneratorExp, ast.Lambda, ast.NamedExpr, ast.AugAssign), [], name)
+            for node in tree.body:
+                self.assertIsInstance(node, (ast.Expr, ast.ImportFrom, ast.Assign, ast.FunctionDef, ast.ClassDef), name)
+
+    def test_builtins_and_methods(self):
+        own = {node.name for _, _, tree in files() for node in nodes(tree, ast.FunctionDef)}
+        for name, _, tree in files():
+            bound = own_names(tree)
+            self.assertFalse(set(bound) & (set(dir(builtins)) | set(BARRED_NAMES)) - {'__init__'}, name)
+            for node in nodes(tree, ast.Name):
+                if hasattr(builtins, node.id):
+                    self.assertIn(node.id, BUILTINS, (name, node.lineno))
+            for node in nodes(tree, ast.Call):
+                if isinstance(node.func, ast.Attribute):
+                    self.assertTrue(node.func.attr in METHODS or node.func.attr in own, (name, node.lineno))
+
+    def test_words(self):
+        for name, text, _ in files():
+            for word in BARRED:
+                self.assertFalse(re.search(rf'\b{word}\b', text), (name, word))
+
+    def test_a_generator_has_a_name_of_its_own(self):
+        functions = [node for _, _, tree in files() for node in nodes(tree, ast.FunctionDef)]
+        for node in functions:
+            if nodes(node, ast.Yield):
+                self.assertEqual([other.name for other in functions].count(node.name), 1)
+
+
+if __name__ == '__main__':
+    unittest.main()

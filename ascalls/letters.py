@@ -62,18 +62,18 @@ def letters_behind(rounds, spots, first):
     before = {}
     # In each round all letters from this index on are found already.
     found = [len(letters) for letters in rounds]
-    level = [first]
-    while level:
-        reached = []
-        for letter in level:
-            for p, i in spots[letter]:
-                for later in rounds[p][i + 1:found[p]]:
-                    if later not in before:
-                        before[later] = letter
-                        reached.append(later)
-                if i < found[p]:
-                    found[p] = i + 1
-        level = reached
+    waiting = [first]
+    at = 0
+    while at < len(waiting):
+        letter = waiting[at]
+        at = at + 1
+        for p, i in spots[letter]:
+            for later in rounds[p][i + 1:found[p]]:
+                if later not in before:
+                    before[later] = letter
+                    waiting.append(later)
+            if i < found[p]:
+                found[p] = i + 1
     return before
 
 

@@ -12,6 +12,7 @@ STATEMENTS = (ast.FunctionDef, ast.ClassDef, ast.Assign, ast.If, ast.While, ast.
 BUILTINS = ('len', 'bool', 'range', 'enumerate', 'zip', 'sum', 'sorted', 'int', 'str', 'list', 'tuple', 'set', 'isinstance', 'any',
             'all', 'iter', 'super', 'ValueError', 'property', 'classmethod', 'staticmethod')
 METHODS = ('append', 'extend', 'get', 'join', 'split')
+CHANGING = ('append', 'clear', 'extend', 'insert', 'pop', 'remove', 'reverse', 'setdefault', 'update', 'sort', 'add', 'discard')
 BARRED = ('type', 'typing', 'enum', 'Enum', 'Flag', 'Generic', 'Protocol', 'ABC', 'namedtuple', 'dataclass', 'overload',
           'contextmanager', 'Meta', '_wall', '_WallAttr')
 BARRED_NAMES = ('register', 'mro', 'elements', 'open', 'input', 'law', 'compile', 'dir', 'eval', 'exec', 'exit', 'gc', 'help',
@@ -36,6 +37,48 @@ def own_names(tree):
     names += [node.arg for node in nodes(tree, ast.arg)]
     names += [node.id for node in nodes(tree, ast.Name) if isinstance(node.ctx, ast.Store)]
     return names
+
+
+def keys_of(node):
+    """The names of what an expression is, may be, or goes over: variables, and attributes with a dot before them."""
+    if isinstance(node, ast.Name):
+        return {node.id}
+    if isinstance(node, ast.Attribute):
+        return {'.' + node.attr}
+    if isinstance(node, ast.Subscript):
+        return set() if isinstance(node.slice, ast.Slice) else keys_of(node.value)
+    if isinstance(node, ast.IfExp):
+        return keys_of(node.body) | keys_of(node.orelse)
+    if isinstance(node, ast.BoolOp):
+        return set().union(*map(keys_of, node.values))
+    if isinstance(node, ast.Call) and isinstance(node.func, ast.Name) and node.func.id in ('zip', 'enumerate', 'reversed'):
+        return set().union(*map(keys_of, node.args))
+    if isinstance(node, ast.Call) and isinstance(node.func, ast.Attribute) and node.func.attr in ('items', 'keys', 'values'):
+        return keys_of(node.func.value)
+    return set()
+
+
+def with_other_names(function, names):
+    """These names of a function, and all that may be the same by plain assignments."""
+    pairs = [(keys_of(target), keys_of(node.value)) for node in nodes(function, ast.Assign) for target in node.targets]
+    found = set(names)
+    for _ in pairs:
+        for targets, values in pairs:
+            if (targets | values) & found and targets and values:
+                found |= targets | values
+    return found
+
+
+def changed_in(node):
+    """The names of what a statement changes: items that are assigned or deleted, and lists and dicts that change."""
+    found = set()
+    for part in nodes(node, ast.Subscript):
+        if not isinstance(part.ctx, ast.Load):
+            found |= keys_of(part.value)
+    for part in nodes(node, ast.Call):
+        if isinstance(part.func, ast.Attribute) and part.func.attr in CHANGING:
+            found |= keys_of(part.func.value)
+    return found
 
 
 class LanguageTests(unittest.TestCase):
@@ -92,6 +135,14 @@ class LanguageTests(unittest.TestCase):
             for node in nodes(tree, ast.Call):
                 if isinstance(node.func, ast.Attribute):
                     self.assertTrue(node.func.attr in METHODS or node.func.attr in own, (name, node.lineno))
+
+    def test_a_loop_does_not_change_what_it_goes_over(self):
+        for name, _, tree in files():
+            for function in nodes(tree, ast.FunctionDef):
+                for loop in nodes(function, ast.For):
+                    over = with_other_names(function, keys_of(loop.iter))
+                    for part in loop.body:
+                        self.assertFalse(over & changed_in(part), (name, part.lineno))
 
     def test_words(self):
         for name, text, _ in files():

@@ -12,8 +12,7 @@ def letters_of(program, made):
 
 def is_ahead(program, made, m, n):
     """Whether letter m is ahead of letter n."""
-    spots = spots_of(_rounds_of_two(program, made, m, n))
-    return any([p == q and i < j for p, i in spots[m] for q, j in spots[n]])
+    return goes_ahead(spots_of(_rounds_of_two(program, made, m, n)), m, n)
 
 
 def is_behind(program, made, m, n):
@@ -37,13 +36,19 @@ def are_direct(rows):
     return all([row[3] is None or row[3] == row[2] + 1 for row in rows])
 
 
-def rounds_of(program, made, rows):
-    """For each party a list of the letters of which it does an event, in this order."""
+def letters_by_index(rows):
+    """A dict of the letter of the event at each index of a run that is a put or a take."""
     letters = {}
     for number, row in enumerate(rows):
         letters[row[2]] = number
         if row[3] is not None:
             letters[row[3]] = number
+    return letters
+
+
+def rounds_of(program, made, rows):
+    """For each party a list of the letters of which it does an event, in this order."""
+    letters = letters_by_index(rows)
     events = [(event[0], letters[k]) for k, event in enumerate(made) if k in letters]
     return [[letter for name, letter in events if name == party[0]] for party in program[0]]
 
@@ -55,6 +60,11 @@ def spots_of(rounds):
         for i, letter in enumerate(letters):
             spots[letter] = spots.get(letter, ()) + ((p, i),)
     return spots
+
+
+def goes_ahead(spots, m, n):
+    """Whether letter m, at these spots, is ahead of letter n."""
+    return any([p == q and i < j for p, i in spots[m] for q, j in spots[n]])
 
 
 def letters_behind(rounds, spots, first):

@@ -20,6 +20,10 @@ FUNCTIONS = {
              'places_after(program, made)', 'contents_of(program, made)', 'stand_after(program, made)'],
     'letters': ['letters_of(program, made)', 'is_ahead(program, made, m, n)', 'is_behind(program, made, m, n)',
                 'shortest_ring(program, made)', 'is_direct(program, made)'],
+    'pictures': ['picture(program, made)'],
+    'stands': ['first_stand(program)', 'moves_from(program, stand)', 'watched_from(program, watched)',
+               'is_crossing(program, watched)'],
+    'judging': ['is_as_calls(program)', 'fewest_to_ring(program)', 'ring_run(program)'],
     'orders': ['direct_run(program, made)', 'are_alike(program, made, other)', 'events_of(program, made, party)',
                'doings_of(program, made, party)', 'moves_of(program, made)'],
 }
@@ -39,9 +43,18 @@ CLASSES = {
         'Called': ['__init__(self, program, *names)'],
         'Mirrored': ['__init__(self, program)'],
     },
+    'runclasses': {'Run': ['__init__(self, program, events=())', 'read(cls, program, text)']},
+    'leaders': {'Leader': ['__init__(self, program)', 'go(self, step)', 'undo(self, steps=1)', 'trial(self)', 'tried(self, steps)']},
 }
-OPERATORS = {'Program': ['__getitem__', '__contains__', '__len__', '__iter__', '__eq__', '__str__', '__add__', '__sub__']}
-PROPERTIES = {'Program': ['parties', 'channels', 'form'], 'Called': ['source'], 'Mirrored': ['source']}
+OPERATORS = {
+    'Program': ['__getitem__', '__contains__', '__len__', '__iter__', '__eq__', '__str__', '__add__', '__sub__'],
+    'Run': ['__len__', '__getitem__', '__iter__', '__contains__', '__str__', '__add__', '__eq__', '__le__', '__ge__', '__and__'],
+    'Leader': ['__iadd__', '__len__'],
+}
+PROPERTIES = {
+    'Program': ['parties', 'channels', 'form'], 'Called': ['source'], 'Mirrored': ['source'],
+    'Run': ['letters_now', 'stand_now'], 'Leader': ['events_now', 'next_step'],
+}
 GENERATORS = (('orders', 'moves_of'), ('programclasses', 'Program.all_arrows'))
 
 
@@ -78,6 +91,11 @@ class InterfaceTests(unittest.TestCase):
         program = vars(module('programclasses').Program)
         self.assertIsInstance(program['parsed'], classmethod)
         self.assertIsInstance(program['plain'], staticmethod)
+        self.assertIsInstance(vars(module('runclasses').Run)['read'], classmethod)
+
+    def test_setters(self):
+        self.assertIsNot(vars(module('leaders').Leader)['next_step'].fset, None)
+        self.assertIs(vars(module('leaders').Leader)['events_now'].fset, None)
 
     def test_generators(self):
         for name, path in GENERATORS:

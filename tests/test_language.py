@@ -10,8 +10,8 @@ FOLDER = pathlib.Path(__file__).resolve().parent.parent / 'ascalls'
 STATEMENTS = (ast.FunctionDef, ast.ClassDef, ast.Assign, ast.If, ast.While, ast.For, ast.Return, ast.Break, ast.Continue,
               ast.Pass, ast.Raise, ast.Assert, ast.Delete, ast.Try, ast.Expr, ast.ImportFrom, ast.With)
 BUILTINS = ('len', 'bool', 'range', 'enumerate', 'zip', 'sum', 'sorted', 'int', 'str', 'list', 'tuple', 'set', 'isinstance', 'any',
-            'all', 'iter', 'super', 'ValueError', 'property', 'classmethod', 'staticmethod')
-METHODS = ('append', 'extend', 'get', 'join', 'split')
+            'all', 'iter', 'super', 'ValueError', 'NotImplemented', 'property', 'classmethod', 'staticmethod')
+METHODS = ('append', 'extend', 'get', 'index', 'join', 'ljust', 'rjust', 'split')
 CHANGING = ('append', 'clear', 'extend', 'insert', 'pop', 'remove', 'reverse', 'setdefault', 'update', 'sort', 'add', 'discard')
 BARRED = ('type', 'typing', 'enum', 'Enum', 'Flag', 'Generic', 'Protocol', 'ABC', 'namedtuple', 'dataclass', 'overload',
           'contextmanager', 'Meta', '_wall', '_WallAttr')
@@ -135,6 +135,15 @@ class LanguageTests(unittest.TestCase):
             for node in nodes(tree, ast.Call):
                 if isinstance(node.func, ast.Attribute):
                     self.assertTrue(node.func.attr in METHODS or node.func.attr in own, (name, node.lineno))
+
+    def test_sets_are_sorted_or_measured_at_once(self):
+        for name, _, tree in files():
+            calls = [node for node in nodes(tree, ast.Call) if isinstance(node.func, ast.Name)]
+            sets = [node for node in calls if node.func.id == 'set']
+            used = [node.args[0] for node in calls if node.func.id in ('sorted', 'len')]
+            self.assertTrue(all(node in used for node in sets), name)
+            # Some classes have an order of their own, so that only sets are sorted.
+            self.assertTrue(all(node.args[0] in sets for node in calls if node.func.id == 'sorted'), name)
 
     def test_a_loop_does_not_change_what_it_goes_over(self):
         for name, _, tree in files():

@@ -3,6 +3,7 @@
 from itertools import combinations, product
 
 from tests import model
+from tests.samples import kinds_in
 
 
 def subsets(things):
@@ -148,16 +149,81 @@ def ring_sets(program):
     return {tuple(row[0] for row, head in zip(program[1], watched[1]) if head) for watched in crossings}
 
 
+def verdict(program, thing):
+    """What a checker of call papers has to say: True, False, or the word and the place of its refusal."""
+    if isinstance(thing, tuple) and len(thing) == 2 and thing[0] == 'table' and isinstance(thing[1], tuple):
+        return table_verdict(program, thing[1])
+    if isinstance(thing, tuple) and len(thing) == 3 and thing[0] == 'ring':
+        return ring_verdict(program, thing[1], thing[2])
+    return ('shape', -1)
+
+
+def table_verdict(program, stands):
+    """The same for the watched stands of a table."""
+    known = {repr(kinds_in(watched)) for watched in all_watched(program)}
+    told = [repr(kinds_in(thing)) for thing in stands]
+    for k, text in enumerate(told):
+        if text not in known or text in told[:k]:
+            return ('stand', k)
+    if (*first(program), ()) not in stands:
+        return ('first', -1)
+    for k, watched in enumerate(stands):
+        if any(later not in stands for _, later in watched_moves(program, watched)):
+            return ('move', k)
+        if crosses(program, watched):
+            return ('cross', k)
+    return True
+
+
+def ring_verdict(program, made, ring):
+    """The same for a run and a ring."""
+    try:
+        state = state_after(program, made)
+    except ValueError as error:
+        return error.args
+    if not isinstance(ring, tuple) or len(ring) < 2:
+        return ('ring', -1)
+    numbers = {repr(kinds_in(k)) for k in range(len(state.letters))}
+    told = [repr(kinds_in(thing)) for thing in ring]
+    if not set(told) <= numbers or len(set(told)) < len(told):
+        return ('ring', -1)
+    pairs = model.ahead_pairs(state)
+    for k, pair in enumerate(zip(ring, ring[1:] + ring[:1])):
+        if pair not in pairs:
+            return ('ahead', k)
+    return False
+
+
+def state_after(program, made):
+    """The state of a run; ValueError with the word and the place if it is none."""
+    if not isinstance(made, tuple):
+        raise ValueError('shape', -1)
+    state = model.State(program)
+    while len(state.events) < len(made):
+        k = len(state.events)
+        steps = [step for step in state.steps() if kinds_in(step) == kinds_in(made[k:k + len(step)])]
+        if steps:
+            state = state.do(steps[0])
+            continue
+        known = {repr(kinds_in(event)): arrow for event, arrow in state.arrows.items()}
+        arrow = known.get(repr(kinds_in(made[k])))
+        if arrow is None:
+            raise ValueError('event', k)
+        raise ValueError('place' if arrow[0] != state.places[made[k][0]] else 'channel', k)
+    return state
+
+
 def has_ring(state):
     """Whether a run has a ring."""
     return any(m == n for m, n in model.behind_pairs(state))
 
 
-def finite_program(random):
+def finite_program(random, most=3):
     """A small program in which no party comes back to a place, so that its runs are few."""
     names = ['ann', 'bob', 'cid'][:random.choice((2, 2, 3))]
     forms = random.choice((('queue',), ('bag',), ('queue', 'bag', 'call')))
-    channels = [('xyz'[k], *random.sample(names, 2), random.choice(forms)) for k in range(random.randint(1, 3))]
+    many = random.randint(1, 3) if most == 3 else most
+    channels = [('stuvwxyz'[k], *random.sample(names, 2), random.choice(forms)) for k in range(many)]
     letters = random.choice(('a', 'ab'))
     parties = []
     for name in names:
@@ -176,10 +242,10 @@ def finite_program(random):
     return (tuple(parties), tuple(channels))
 
 
-def finite_programs(random, many):
-    """So many of these programs, half of them with a ring in some run."""
+def finite_programs(random, many, most=3):
+    """So many of these programs, with so many channels, half of them with a ring in some run."""
     found = {True: [], False: []}
     while min(len(rows) for rows in found.values()) < many // 2:
-        program = finite_program(random)
+        program = finite_program(random, most)
         found[fewest_to_cross(program) is None].append(program)
     return tuple(found[True][:many // 2] + found[False][:many // 2])

@@ -78,10 +78,11 @@ class Trial:
         self._floor = 0
 
     def __enter__(self):
-        self._steps = self._leader._steps
-        self._floor = self._leader._floor
-        self._leader._floor = len(self._steps)
-        return self._leader
+        leader = self._leader
+        self._steps = leader._steps
+        self._floor = leader._floor
+        leader._floor = len(self._steps)
+        return leader
 
     def __exit__(self, kind, value, trace):
         leader = self._leader

@@ -185,14 +185,18 @@ class Search:
                 # A move of two events waits twice, so that those of fewer events come first.
                 self._waiting.append((later, found, move, len(move) == 1))
 
-    def way_to(self, found):
-        """The tuple of the events of the moves that lead to one that is found."""
+    def moves_to(self, found):
+        """The tuple of the moves that lead to one that is found."""
         moves = []
         before, move = self._ways[found]
         while before is not None:
             moves.append(move)
             before, move = self._ways[before]
-        return tuple([event for move in moves[::-1] for event in move])
+        return tuple(moves[::-1])
+
+    def way_to(self, found):
+        """The tuple of the events of the moves that lead to one that is found."""
+        return tuple([event for move in self.moves_to(found) for event in move])
 
     def all_found(self):
         """The list of those that are found, in this order."""

@@ -249,3 +249,20 @@ def finite_programs(random, many, most=3):
         program = finite_program(random, most)
         found[fewest_to_cross(program) is None].append(program)
     return tuple(found[True][:many // 2] + found[False][:many // 2])
+
+
+def wide_program(random):
+    """A small program with loops over up to four places."""
+    channels = [('xyz'[k], *random.sample(('ann', 'bob'), 2), random.choice(('queue', 'bag', 'call'))) for k in range(random.randint(1, 2))]
+    parties = []
+    for name in ('ann', 'bob'):
+        doings = [('do', 'nap'), ('do', 'x')]
+        for channel in channels:
+            word = 'put' if name == channel[1] else 'take'
+            doings += [(word, channel[0], 'a'), (word, channel[0], 'b')] * 2
+        places = random.randint(2, 4)
+        arrows = {(k, random.choice(doings), (k + 1) % places): True for k in range(places)}
+        for _ in range(random.randint(0, 3)):
+            arrows[(random.randrange(places), random.choice(doings), random.randrange(places))] = True
+        parties.append((name, (), tuple(arrows)))
+    return (tuple(parties), tuple(channels))

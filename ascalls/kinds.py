@@ -1,7 +1,8 @@
-"""Which values are names, doings, arrows, channels, parties, programs and events."""
+"""Which values are names, doings, arrows, channels, parties, programs, events and watch events."""
 
 LETTERS = "abcdefghijklmnopqrstuvwxyz"
 FORMS = ("queue", "bag", "call")
+GUARDS = ("on", "off")
 
 
 def is_integer(thing):
@@ -80,6 +81,26 @@ def is_event(thing):
     return is_row(thing, 2) and is_name(thing[0]) and is_number(thing[1])
 
 
+def is_guard(thing):
+    """Whether any value is one of the two words of a guard."""
+    return isinstance(thing, str) and thing in GUARDS
+
+
+def is_watch_event(thing):
+    """Whether any value is a watch event by form."""
+    if is_row(thing, 2):
+        if thing[0] == "did":
+            return _is_step(thing[1])
+        if thing[0] == "guard":
+            return is_guard(thing[1])
+        return thing[0] == "mark" and is_name(thing[1])
+    if is_row(thing, 3) and is_name(thing[1]):
+        if thing[0] == "form":
+            return is_form(thing[2])
+        return thing[0] == "arrow" and is_arrow(thing[2])
+    return False
+
+
 def is_row(thing, size):
     """Whether any value is a tuple of so many values."""
     return isinstance(thing, tuple) and len(thing) == size
@@ -122,3 +143,10 @@ def is_owner(sides, name, doing):
         return False
     sender, taker = sides[doing[1]]
     return name == (sender if doing[0] == "put" else taker)
+
+
+def _is_step(thing):
+    """Whether any value is a tuple of one or two pairs of a name and a number."""
+    if not isinstance(thing, tuple) or len(thing) not in (1, 2):
+        return False
+    return all([is_event(event) for event in thing])

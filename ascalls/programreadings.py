@@ -16,12 +16,16 @@ def doing_read(text, *, line=0, field=0):
 
 def program_read(text):
     """The pair of the tuples of parties and of channels that a string writes; InvalidText otherwise."""
+    return lines_read([] if text == "" else text.split("\n"), 0)
+
+
+def lines_read(lines, first):
+    """The same for a list of lines, of which the first one has this index in the whole text."""
     parties = []
     channels = []
-    lines = [] if text == "" else text.split("\n")
     for at, line in enumerate(lines):
         words = line.split(" ")
-        check_words(words, _line_kinds(words, parties), at, 0)
+        check_words(words, _line_kinds(words, parties), first + at, 0)
         if words[0] == "channel":
             channels.append(tuple(words[1:]))
         elif words[0] == "party":

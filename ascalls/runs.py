@@ -37,7 +37,7 @@ def contents_of(program, made):
 def stand_after(program, made):
     """The stand of a run."""
     contents = _contents_of(program, rows_of_run(program, made, "made"))
-    heads = [_head_of(channel[3], names) for channel, names in zip(program[1], contents)]
+    heads = [head_of(channel[3], names) for channel, names in zip(program[1], contents)]
     return (_places_after(program, made), tuple(heads))
 
 
@@ -56,12 +56,12 @@ def letter_rows(program, thing):
         if start != places[event[0]]:
             raise InvalidPaper("place", k)
         if doing[0] == "put":
-            if _is_call(program, doing[1]) and not _is_taken_by(program, places, doing, thing[k + 1:k + 2]):
+            if is_call(program, doing[1]) and not _is_taken_by(program, places, doing, thing[k + 1:k + 2]):
                 raise InvalidPaper("channel", k)
             lying[doing[1]] = lying[doing[1]] + (len(rows),)
             rows.append((doing[1], doing[2], k, None))
         elif doing[0] == "take":
-            number = _letter_to_take(program, rows, lying[doing[1]], doing)
+            number = letter_to_take(program, rows, lying[doing[1]], doing)
             if number is None:
                 raise InvalidPaper("channel", k)
             lying[doing[1]] = tuple([other for other in lying[doing[1]] if other != number])
@@ -96,7 +96,7 @@ def _steps_of(program, places, heads, event, doing):
     """The list of the steps that begin with an event of this doing, at the place of its party."""
     if doing[0] == "do":
         return [(event,)]
-    if _is_call(program, doing[1]):
+    if is_call(program, doing[1]):
         return [(event, take) for take in _takes_at_once(program, places, doing)]
     if doing[0] == "put" or doing[2] in heads[doing[1]]:
         return [(event,)]
@@ -121,7 +121,7 @@ def _is_taken_by(program, places, doing, following):
     return False
 
 
-def _letter_to_take(program, rows, lying, doing):
+def letter_to_take(program, rows, lying, doing):
     """The number of the letter, of those that lie on the channel, that a take takes; None without one."""
     # A bag lets a letter pass those before it; on a queue, and on a call, the first one alone can be taken.
     numbers = lying if find_channel(program, doing[1])[3] == "bag" else lying[:1]
@@ -131,7 +131,8 @@ def _letter_to_take(program, rows, lying, doing):
     return None
 
 
-def _is_call(program, name):
+def is_call(program, name):
+    """Whether the channel of this name is a call."""
     return find_channel(program, name)[3] == "call"
 
 
@@ -149,6 +150,6 @@ def _contents_of(program, rows):
     return tuple([tuple([row[1] for row in lying if row[0] == channel[0]]) for channel in program[1]])
 
 
-def _head_of(form, names):
+def head_of(form, names):
     """The head of a channel of this form on which letters of these names lie."""
     return tuple(sorted(set(names))) if form == "bag" else names[:1]

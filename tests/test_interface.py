@@ -32,6 +32,14 @@ FUNCTIONS = {
     'leastchecker': ['lets_least(program, thing)'],
     'standing': ['stands_of(program)', 'stuck_stands(program)', 'left_stands(program)', 'way_to(program, stand)',
                  'never_done(program)', 'never_taken(program)', 'newly_stuck(program, names)'],
+    'growth': ['most_lying(program, *, only=None)', 'growth_paper(program, *, only=None)'],
+    'growthchecker': ['lets_growth(program, thing, *, only=None)'],
+    'viewtables': ['view_rows(program, party)'],
+    'viewchecker': ['lets_rows(thing)'],
+    'viewparting': ['are_alike_to(program, other, party)', 'parting_doings(program, other, party)', 'run_for(program, party, doings)'],
+    'eventtexts': ['event_line(event)', 'log_lines(log)'],
+    'eventreadings': ['read_event(text)', 'read_log(lines)'],
+    'replaying': ['is_log(thing)', 'replayed(log)'],
     'orders': ['direct_run(program, made)', 'are_alike(program, made, other)', 'events_of(program, made, party)',
                'doings_of(program, made, party)', 'moves_of(program, made)'],
 }
@@ -53,15 +61,26 @@ CLASSES = {
     },
     'runclasses': {'Run': ['__init__(self, program, events=())', 'read(cls, program, text)']},
     'leaders': {'Leader': ['__init__(self, program)', 'go(self, step)', 'undo(self, steps=1)', 'trial(self)', 'tried(self, steps)']},
+    'viewclasses': {'View': ['__init__(self, rows)', 'made(cls, program, party)', 'nothing()', '__call__(self, doings)', 'without(self, name)']},
+    'watches': {
+        'Watch': ["__init__(self, program, *, guard='off')", 'did(self, *events)', 'set_form(self, channel, form)', 'set_guard(self, word)',
+                  'add_arrow(self, party, arrow)', 'mark(self, name)', 'go(self, event)', '__call__(self, event)', 'tried(self, *events)',
+                  'undo(self)', 'do_all(self, *events, keep=False)', 'tally(self)', 'barred(self, event)', 'table(self)',
+                  'letters_since(self, name)', 'is_sure_since(self, name)', 'log(self)'],
+    },
+    'desk': {'Desk': ['__init__(self)', 'say(self, row)', 'tally(self)']},
 }
 OPERATORS = {
     'Program': ['__getitem__', '__contains__', '__len__', '__iter__', '__eq__', '__str__', '__add__', '__sub__'],
     'Run': ['__len__', '__getitem__', '__iter__', '__contains__', '__str__', '__add__', '__eq__', '__le__', '__ge__', '__and__'],
     'Leader': ['__iadd__', '__len__'],
+    'View': ['__eq__', '__le__', '__ge__', '__and__', '__or__', '__contains__', '__call__', '__len__'],
+    'Watch': ['__call__', '__getitem__', '__contains__', '__iter__', '__len__', '__eq__', '__str__'],
 }
 PROPERTIES = {
     'Program': ['parties', 'channels', 'form'], 'Called': ['source'], 'Mirrored': ['source'],
-    'Run': ['letters_now', 'stand_now'], 'Leader': ['events_now', 'next_step'],
+    'Run': ['letters_now', 'stand_now'], 'Leader': ['events_now', 'next_step'], 'View': ['rows'],
+    'Watch': ['program_now', 'places_now', 'lying_now', 'steps_now', 'crossings_now', 'ring_now', 'guard_now'],
 }
 GENERATORS = (('orders', 'moves_of'), ('programclasses', 'Program.all_arrows'))
 
@@ -100,10 +119,27 @@ class InterfaceTests(unittest.TestCase):
         self.assertIsInstance(program['parsed'], classmethod)
         self.assertIsInstance(program['plain'], staticmethod)
         self.assertIsInstance(vars(module('runclasses').Run)['read'], classmethod)
+        self.assertIsInstance(vars(module('viewclasses').View)['made'], classmethod)
+        self.assertIsInstance(vars(module('viewclasses').View)['nothing'], staticmethod)
 
     def test_setters(self):
         self.assertIsNot(vars(module('leaders').Leader)['next_step'].fset, None)
         self.assertIs(vars(module('leaders').Leader)['events_now'].fset, None)
+        for title, path in (('Watch', 'watches'), ('View', 'viewclasses'), ('Run', 'runclasses'), ('Program', 'programclasses')):
+            for prop in PROPERTIES[title]:
+                self.assertIs(vars(vars(module(path))[title])[prop].fset is None, prop != 'guard_now')
+
+    def test_class_values(self):
+        self.assertEqual(vars(module('watches').Watch)['MOST'], 40)
+
+    def test_modules(self):
+        """All modules that the document lists are there."""
+        names = ('errors kinds programchecker programparts programchanges programtexts programreadings programclasses runs letters orders '
+                 'pictures runclasses leaders stands judging callpapers callchecker leastcalls leastpapers leastchecker standing growth '
+                 'growthchecker viewtables viewchecker viewclasses viewparting watches eventtexts eventreadings replaying desk')
+        self.assertEqual(sorted({*FUNCTIONS, *CLASSES}), sorted(names.split()))
+        for name in names.split():
+            self.assertIsNot(module(name), None)
 
     def test_generators(self):
         for name, path in GENERATORS:

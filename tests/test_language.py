@@ -9,9 +9,12 @@ import unittest
 FOLDER = pathlib.Path(__file__).resolve().parent.parent / 'ascalls'
 STATEMENTS = (ast.FunctionDef, ast.ClassDef, ast.Assign, ast.If, ast.While, ast.For, ast.Return, ast.Break, ast.Continue,
               ast.Pass, ast.Raise, ast.Assert, ast.Delete, ast.Try, ast.Expr, ast.ImportFrom, ast.With)
-BUILTINS = ('len', 'bool', 'range', 'enumerate', 'zip', 'sum', 'sorted', 'int', 'str', 'list', 'tuple', 'set', 'isinstance', 'any',
+# A test of examples keeps its last result as the builtin _.
+ALL_BUILTINS = set(dir(builtins)) - {'_'}
+BUILTINS = ('len', 'bool', 'range', 'enumerate', 'zip', 'sum', 'sorted', 'int', 'str', 'list', 'tuple', 'dict', 'set', 'isinstance', 'any',
             'all', 'iter', 'super', 'ValueError', 'NotImplemented', 'property', 'classmethod', 'staticmethod')
-METHODS = ('append', 'extend', 'get', 'index', 'join', 'ljust', 'rjust', 'split')
+METHODS = ('append', 'extend', 'get', 'index', 'join', 'ljust', 'partition', 'pop', 'replace', 'rjust', 'setdefault', 'split')
+FREE = ('__init__', '__enter__', '__exit__', '__call__', '__iadd__')
 CHANGING = ('append', 'clear', 'extend', 'insert', 'pop', 'remove', 'reverse', 'setdefault', 'update', 'sort', 'add', 'discard')
 BARRED = ('type', 'typing', 'enum', 'Enum', 'Flag', 'Generic', 'Protocol', 'ABC', 'namedtuple', 'dataclass', 'overload',
           'contextmanager', 'Meta', '_wall', '_WallAttr')
@@ -81,7 +84,126 @@ def changed_in(node):
     return found
 
 
+def resolved(trees, name, called):
+    """The (file, function) pairs that a call in this file may mean: a function by its name, or all methods of a name."""
+    if isinstance(called, ast.Attribute):
+        return [(other, node) for other, tree in trees.items() for part in nodes(tree, ast.ClassDef) for node in part.body
+                if isinstance(node, ast.FunctionDef) and node.name == called.attr]
+    if not isinstance(called, ast.Name):
+        return []
+    for node in trees[name].body:
+        if isinstance(node, ast.FunctionDef) and node.name == called.id:
+            return [(name, node)]
+        if isinstance(node, ast.ClassDef) and node.name == called.id:
+            return [(name, part) for part in node.body if isinstance(part, ast.FunctionDef) and part.name == '__init__']
+        if isinstance(node, ast.ImportFrom) and called.id in [alias.name for alias in node.names]:
+            return resolved(trees, node.module.partition('.')[2] + '.py', called)
+    return []
+
+
+def run_by_operators(trees):
+    """The (file, function) pairs of all operators and properties, and of all that they may call."""
+    waiting = []
+    for name, tree in trees.items():
+        for part in nodes(tree, ast.ClassDef):
+            for node in part.body:
+                if isinstance(node, ast.FunctionDef):
+                    words = [getattr(word, 'id', None) for word in node.decorator_list]
+                    is_operator = node.name.startswith('__') and node.name not in FREE
+                    if 'property' in words or is_operator:
+                        waiting.append((name, node))
+    found = {}
+    while waiting:
+        name, node = waiting.pop()
+        if node not in found:
+            found[node] = name
+            for call in nodes(node, ast.Call):
+                waiting.extend(resolved(trees, name, call.func))
+    return [(name, node) for node, name in found.items()]
+
+
+def is_created(node):
+    """Whether an expression makes a new list, dict or set."""
+    if isinstance(node, ast.Call) and isinstance(node.func, ast.Name):
+        return node.func.id in ('list', 'dict', 'set', 'sorted')
+    if isinstance(node, ast.Subscript):
+        return isinstance(node.slice, ast.Slice)
+    return isinstance(node, (ast.List, ast.Dict, ast.Set, ast.ListComp, ast.DictComp))
+
+
+def changed_by(function):
+    """The expressions of which a function changes an item or an attribute."""
+    found = [node.value for node in nodes(function, ast.Subscript, ast.Attribute) if not isinstance(node.ctx, ast.Load)]
+    for node in nodes(function, ast.Call):
+        if isinstance(node.func, ast.Attribute) and node.func.attr in CHANGING:
+            value = node.func.value
+            # The list that setdefault gives is one that it was given, where it was not there.
+            is_default = isinstance(value, ast.Call) and isinstance(value.func, ast.Attribute) and value.func.attr == 'setdefault'
+            found.append(value.func.value if is_default else value)
+    return found
+
+
 class LanguageTests(unittest.TestCase):
+    def test_operators_and_properties_change_only_what_they_created(self):
+        trees = {name: tree for name, _, tree in files()}
+        functions = run_by_operators(trees)
+        self.assertGreater(len(functions), 60)
+        for name, function in functions:
+            made = {}
+            for node in nodes(function, ast.Assign):
+                for target in node.targets:
+                    if isinstance(target, ast.Name):
+                        made.setdefault(target.id, []).append(is_created(node.value))
+            for value in changed_by(function):
+                if function.name == '__init__':
+                    self.assertEqual(getattr(value, 'id', None), 'self', (name, function.name))
+                else:
+                    self.assertTrue(isinstance(value, ast.Name) and all(made.get(value.id, [False])), (name, function.name, value.lineno))
+
+    def test_finally_assigns_what_is_ready(self):
+        for name, _, tree in files():
+            for node in nodes(tree, ast.Try):
+                for handler in node.handlers:
+                    self.assertIn(handler.type.id, ('InvalidPaper', 'InvalidText', 'InvalidEvent'), name)
+                for part in node.finalbody:
+                    self.assertIsInstance(part, ast.Assign, name)
+                    self.assertIsInstance(part.value, ast.Name, name)
+
+    def test_strings(self):
+        for name, _, tree in files():
+            for node in nodes(tree, ast.FormattedValue):
+                words = [part for part in nodes(node.value, ast.Constant) if isinstance(part.value, str)]
+                self.assertEqual(words, [], (name, node.lineno))
+            for node in nodes(tree, ast.FunctionDef):
+                if node.name in ('__str__', '__len__'):
+                    self.assertIsInstance(node.body[-1], ast.Return)
+                    for part in nodes(node, ast.Return):
+                        self.assertIsInstance(part.value, (ast.Call, ast.Constant))
+
+    def test_no_imports_in_a_circle(self):
+        imports = {name[:-3]: {node.module.partition('.')[2] for node in nodes(tree, ast.ImportFrom)} for name, _, tree in files()}
+        while imports:
+            ready = [name for name, others in imports.items() if not others & set(imports)]
+            self.assertTrue(ready, imports)
+            for name in ready:
+                del imports[name]
+
+    def test_names_of_methods_properties_and_attributes(self):
+        """No class has a method and an attribute of one name, and what is decorated has its name in no other way."""
+        methods, special, stored = {}, set(), {}
+        for name, _, tree in files():
+            for part in nodes(tree, ast.ClassDef):
+                for node in part.body:
+                    if isinstance(node, ast.FunctionDef):
+                        words = [getattr(word, 'id', getattr(word, 'attr', None)) for word in node.decorator_list]
+                        (special if words else methods.setdefault(part.name, set())).add(node.name)
+                stored[part.name] = {node.attr for node in nodes(part, ast.Attribute) if not isinstance(node.ctx, ast.Load)}
+        plain = set().union(*methods.values())
+        self.assertFalse(special & plain)
+        self.assertFalse(special & set().union(*stored.values()) - {'source'})
+        for title, names in stored.items():
+            self.assertFalse(names & methods.get(title, set()), title)
+
     def test_files(self):
         names = [path.name for path in FOLDER.iterdir() if path.name != '__pycache__']
         self.assertIn('__init__.py', names)
@@ -128,9 +250,9 @@ class LanguageTests(unittest.TestCase):
         own = {node.name for _, _, tree in files() for node in nodes(tree, ast.FunctionDef)}
         for name, _, tree in files():
             bound = own_names(tree)
-            self.assertFalse(set(bound) & (set(dir(builtins)) | set(BARRED_NAMES)) - {'__init__'}, name)
+            self.assertFalse(set(bound) & (ALL_BUILTINS | set(BARRED_NAMES)) - {'__init__'}, name)
             for node in nodes(tree, ast.Name):
-                if hasattr(builtins, node.id):
+                if node.id in ALL_BUILTINS:
                     self.assertIn(node.id, BUILTINS, (name, node.lineno))
             for node in nodes(tree, ast.Call):
                 if isinstance(node.func, ast.Attribute):

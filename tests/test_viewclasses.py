@@ -142,7 +142,8 @@ class ViewTests(unittest.TestCase):
     def test_other(self):
         view = View.made(ASK, 'ann')
         for thing in THINGS + (view.rows, ASK, object()):
-            for function in (lambda a, b: a <= b, lambda a, b: a >= b, lambda a, b: a & b, lambda a, b: a | b):
+            for function in (lambda a, b: a <= b, lambda a, b: a >= b, lambda a, b: a & b, lambda a, b: a | b,
+                             lambda a, b: b <= a, lambda a, b: b >= a):
                 with self.assertRaises(NotUsable) as told:
                     function(view, thing)
                 self.assertEqual((told.exception.word, told.exception.at), ('other', -1))
